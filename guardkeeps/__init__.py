@@ -1,0 +1,1 @@
+"""Guardkeeps: what a guard can keep, whatever a program does."""

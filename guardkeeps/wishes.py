@@ -1,0 +1,78 @@
+"""WISHES and RUNS: what they are, and which are GOOD or LIVE."""
+
+from guardkeeps.checks import are_ascending, are_numbers, is_integer, is_triple
+from guardkeeps.errors import BadWish, OutOfPlace
+
+MOST_DEEDS = 4
+MOST_STATES = 6
+LONGEST_RUN = 400
+
+
+def need_wish(thing):
+    """The thing itself, if it is a WISH; otherwise BadWish."""
+    if not is_triple(thing):
+        raise BadWish("form")
+    deeds, steps, good = thing
+    if not is_integer(deeds, 1, MOST_DEEDS):
+        raise BadWish("deeds")
+    if not _are_steps(steps, deeds):
+        raise BadWish("steps")
+    if not are_ascending(good, len(steps)) or 0 not in good:
+        raise BadWish("good")
+    return thing
+
+
+def need_run(wish, thing):
+    """The thing itself, if it is a RUN of a right wish and not too long; otherwise OutOfPlace."""
+    if not are_numbers(thing, wish[0]):
+        raise OutOfPlace("run: a tuple of deeds is wanted")
+    if len(thing) > LONGEST_RUN:
+        raise OutOfPlace("run: more than 400 deeds")
+    return thing
+
+
+def state_of(wish, run):
+    """The state of a RUN."""
+    need_wish(wish)
+    need_run(wish, run)
+    steps = wish[1]
+    state = 0
+    for deed in run:
+        state = steps[state][deed]
+    return state
+
+
+def is_good(wish, run):
+    """Whether a RUN is GOOD."""
+    return state_of(wish, run) in wish[2]
+
+
+def is_live(wish, run):
+    """Whether a RUN is LIVE."""
+    return state_of(wish, run) in live_states(wish)
+
+
+def live_states(wish):
+    """The ascending tuple of the LIVE states, also of those that no RUN reaches."""
+    steps, good = need_wish(wish)[1:]
+    live = good
+    while True:
+        more = _with_those_ahead(steps, live)
+        if more == live:
+            return more
+        live = more
+
+
+def _are_steps(thing, deeds):
+    """Whether a thing is a tuple of 1 to 6 rows, with a state behind each deed."""
+    if not isinstance(thing, tuple) or not 1 <= len(thing) <= MOST_STATES:
+        return False
+    return all([are_numbers(row, len(thing)) and len(row) == deeds for row in thing])
+
+
+def _with_those_ahead(steps, states):
+    """The ascending tuple of some states and those from which one deed leads to them."""
+    return tuple([
+        state for state, row in enumerate(steps)
+        if state in states or any([behind in states for behind in row])
+    ])

@@ -1,0 +1,95 @@
+"""The package as a whole: its interface, its files, and what README.md shows."""
+
+import ast
+import doctest
+import importlib
+import inspect
+import pathlib
+import unittest
+
+ROOT = pathlib.Path(__file__).resolve().parent.parent
+FILES = sorted((ROOT / "guardkeeps").glob("*.py"))
+
+# What has landed of the interface: the file, the name, the arguments.
+INTERFACE = [
+    ("errors", "BadWish", ["part"]),
+    ("errors", "BadKind", ["part"]),
+    ("errors", "BadGuard", ["part"]),
+    ("errors", "BadPaper", ["part"]),
+    ("errors", "BadText", ["line"]),
+    ("errors", "OutOfPlace", ["text"]),
+    ("errors", "Nothing", ["text"]),
+    ("errors", "TooMany", ["most"]),
+    ("wishes", "need_wish", ["thing"]),
+    ("wishes", "state_of", ["wish", "run"]),
+    ("wishes", "is_good", ["wish", "run"]),
+    ("wishes", "is_live", ["wish", "run"]),
+    ("wishes", "live_states", ["wish"]),
+    ("kinds", "need_kind", ["wish", "thing"]),
+]
+
+
+class Interface(unittest.TestCase):
+    def test_names_and_arguments(self):
+        for file, name, arguments in INTERFACE:
+            found = getattr(importlib.import_module(f"guardkeeps.{file}"), name)
+            self.assertEqual(found.__module__, f"guardkeeps.{file}")
+            parameters = inspect.signature(found).parameters.values()
+            self.assertEqual([each.name for each in parameters], arguments, name)
+            for each in parameters:
+                self.assertIs(each.kind, inspect.Parameter.POSITIONAL_OR_KEYWORD, name)
+                self.assertIs(each.default, inspect.Parameter.empty, name)
+
+
+class Files(unittest.TestCase):
+    """The rules of the language that a few rows can tell."""
+
+    def test_only_plain_files(self):
+        for path in (ROOT / "guardkeeps").iterdir():
+            if path.name != "__pycache__":
+                self.assertRegex(path.name, r"^([a-z][a-z0-9_]*|__init__)\.py$")
+
+    def test_sizes_and_characters(self):
+        for path in FILES:
+            text = path.read_bytes().decode("ascii")
+            rows = text.split("\n")
+            self.assertLessEqual(len(rows), 399, path)
+            self.assertLessEqual(max(map(len, rows)), 120, path)
+            self.assertTrue(all(" " <= sign <= "~" or sign == "\n" for sign in text), path)
+
+    def test_functions_are_short(self):
+        for path in FILES:
+            for node in ast.walk(ast.parse(path.read_text())):
+                if isinstance(node, ast.FunctionDef):
+                    self.assertLessEqual(node.end_lineno - node.lineno + 1, 40, (path, node.name))
+
+    def test_imports_come_from_the_file_that_defines(self):
+        for path in FILES:
+            for node in ast.walk(ast.parse(path.read_text())):
+                self.assertNotIsInstance(node, ast.Import, path)
+                if isinstance(node, ast.ImportFrom):
+                    self.assertTrue(node.module.startswith("guardkeeps."), path)
+                    home = (ROOT / node.module.replace(".", "/")).with_suffix(".py")
+                    for name in node.names:
+                        self.assertIsNone(name.asname)
+                        self.assertIn(name.name, self.defined_in(home), path)
+
+    def defined_in(self, path):
+        names = []
+        for node in ast.parse(path.read_text()).body:
+            if isinstance(node, (ast.FunctionDef, ast.ClassDef)):
+                names.append(node.name)
+            if isinstance(node, ast.Assign):
+                names.extend(target.id for target in node.targets)
+        return names
+
+
+class Readme(unittest.TestCase):
+    def test_what_it_shows_comes_out(self):
+        failed, tried = doctest.testfile(str(ROOT / "README.md"), module_relative=False)
+        self.assertEqual(failed, 0)
+        self.assertGreater(tried, 0)
+
+
+if __name__ == "__main__":
+    unittest.main()
