@@ -1,12 +1,22 @@
 """Questions about things of any kind, asked before the things are used."""
 
 
-def is_integer(thing, least, most):
-    """Whether a thing is an integer from least to most."""
+def is_count(thing):
+    """Whether a thing is an integer from 0 on."""
     # Python counts True and False among the ints; the document does not.
     if isinstance(thing, bool) or not isinstance(thing, int):
         return False
-    return least <= thing <= most
+    return thing >= 0
+
+
+def is_integer(thing, least, most):
+    """Whether a thing is an integer from least to most, with least from 0 on."""
+    return is_count(thing) and least <= thing <= most
+
+
+def is_pair(thing):
+    """Whether a thing is a tuple of two things."""
+    return isinstance(thing, tuple) and len(thing) == 2
 
 
 def is_triple(thing):

@@ -1,7 +1,7 @@
 """KINDS: how much a guard may hold and be ahead, and what it cannot stop."""
 
 from guardkeeps.checks import are_ascending, is_integer, is_triple
-from guardkeeps.errors import BadKind
+from guardkeeps.errors import BadKind, OutOfPlace
 from guardkeeps.wishes import need_wish
 
 MOST_HELD = 3
@@ -20,4 +20,25 @@ def need_kind(wish, thing):
         raise BadKind("ahead")
     if not are_ascending(loose, deeds):
         raise BadKind("loose")
+    return thing
+
+
+def need_hold(thing):
+    """The thing itself, if it is a HOLD; otherwise OutOfPlace."""
+    if not is_integer(thing, 0, MOST_HELD):
+        raise OutOfPlace("hold: an integer from 0 to 3 is wanted")
+    return thing
+
+
+def need_ahead(thing):
+    """The thing itself, if it is an AHEAD; otherwise OutOfPlace."""
+    if not is_integer(thing, 0, MOST_AHEAD):
+        raise OutOfPlace("ahead: an integer from 0 to 2 is wanted")
+    return thing
+
+
+def need_loose(wish, thing):
+    """The thing itself, if it is an ascending tuple of deeds of a right wish; else OutOfPlace."""
+    if not are_ascending(thing, wish[0]):
+        raise OutOfPlace("loose: an ascending tuple of deeds is wanted")
     return thing

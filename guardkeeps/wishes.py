@@ -31,15 +31,25 @@ def need_run(wish, thing):
     return thing
 
 
+def need_deed(wish, thing):
+    """The thing itself, if it is a deed of a right wish; otherwise OutOfPlace."""
+    if not is_integer(thing, 0, wish[0] - 1):
+        raise OutOfPlace("deed: one of the deeds is wanted")
+    return thing
+
+
+def state_behind(steps, state, deeds):
+    """The state to which deeds lead from a state."""
+    for deed in deeds:
+        state = steps[state][deed]
+    return state
+
+
 def state_of(wish, run):
     """The state of a RUN."""
     need_wish(wish)
     need_run(wish, run)
-    steps = wish[1]
-    state = 0
-    for deed in run:
-        state = steps[state][deed]
-    return state
+    return state_behind(wish[1], 0, run)
 
 
 def is_good(wish, run):
@@ -61,6 +71,18 @@ def live_states(wish):
         if more == live:
             return more
         live = more
+
+
+def reached_states(steps, states):
+    """Those of some states, 0 among them, that come from 0 through such alone, ascending."""
+    reached = {}
+    waiting = [0]
+    while waiting:
+        state = waiting.pop()
+        if state not in reached:
+            reached[state] = True
+            waiting.extend([behind for behind in steps[state] if behind in states])
+    return sorted(reached)
 
 
 def _are_steps(thing, deeds):

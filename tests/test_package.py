@@ -26,6 +26,19 @@ INTERFACE = [
     ("wishes", "is_live", ["wish", "run"]),
     ("wishes", "live_states", ["wish"]),
     ("kinds", "need_kind", ["wish", "thing"]),
+    ("games", "is_position", ["wish", "kind", "value"]),
+    ("games", "answers", ["wish", "kind", "position", "deed"]),
+    ("games", "led", ["wish", "kind", "position", "deed", "shown"]),
+    ("games", "can_be_kept", ["wish", "kind"]),
+    ("games", "kept_paper", ["wish", "kind"]),
+    ("games", "check_kept", ["wish", "kind", "paper"]),
+    ("needs", "least_hold", ["wish", "ahead", "loose"]),
+    ("needs", "least_ahead", ["wish", "hold", "loose"]),
+    ("needs", "need", ["wish"]),
+    ("parts", "is_part", ["wish", "other"]),
+    ("parts", "are_alike", ["wish", "other"]),
+    ("parts", "parting", ["wish", "other"]),
+    ("parts", "kept_part", ["wish", "loose"]),
 ]
 
 

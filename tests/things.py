@@ -13,6 +13,9 @@ ROUND = (2, tuple((state, (state + 1) % 6) for state in range(6)), (0, 3))
 # 0 and 1 are LIVE; 2 is DOOMED; 3 is LIVE and 4 is DOOMED, but no RUN reaches them.
 MIXED = (2, ((1, 2), (0, 2), (2, 2), (4, 1), (2, 4)), (0,))
 
+# Deed 0 opens a door, deed 1 shuts it; the door is to be shut, and breaks if an open one is opened.
+DOOR = (2, ((1, 0), (2, 0), (2, 2)), (0,))
+
 
 class Unlike:
     """A thing that cannot be compared, counted, hashed or called true."""
@@ -56,6 +59,39 @@ def drawn_wishes(seed, times):
     draw = random.Random(seed)
     return [drawn_wish(draw, deeds, states)
             for deeds in range(1, 5) for states in range(1, 7) for _ in range(times)]
+
+
+def drawn_kind(draw, deeds):
+    """A kind for so many deeds; draw is a random.Random."""
+    share = draw.choice((0, 0, 0.3, 0.6, 1))
+    loose = tuple(deed for deed in range(deeds) if draw.random() < share)
+    return (draw.randrange(4), draw.randrange(3), loose)
+
+
+def drawn_games(seed, times):
+    """So many pairs of a wish and a kind for each number of deeds and of states."""
+    draw = random.Random(seed)
+    return [(wish, drawn_kind(draw, wish[0])) for wish in drawn_wishes(seed, times)]
+
+
+def wrong_kinds():
+    """Pairs of a thing that is no KIND for two deeds and the part for which it is refused."""
+    return [
+        (None, "form"),
+        ([0, 0, ()], "form"),
+        ((0, 0), "form"),
+        ((0, 0, (), ()), "form"),
+        (Unlike(), "form"),
+        ((4, 0, ()), "hold"),
+        ((-1, 3, ()), "hold"),
+        ((True, 0, ()), "hold"),
+        ((0, 3, ()), "ahead"),
+        ((0, False, (9,)), "ahead"),
+        ((0, 0, [1]), "loose"),
+        ((0, 0, (1, 0)), "loose"),
+        ((0, 0, (2,)), "loose"),
+        ((0, 0, (True,)), "loose"),
+    ]
 
 
 def wrong_wishes():

@@ -1,0 +1,166 @@
+"""Points [2], [4], [5] and [6] of the document, tried out word by word and without thrift."""
+
+import functools
+import itertools
+
+
+def lots(deeds, most):
+    """All tuples of at most so many deeds."""
+    return [lot for many in range(most + 1)
+            for lot in itertools.product(range(deeds), repeat=many)]
+
+
+def led_to(wish, state, run):
+    """The state to which deeds lead from a state."""
+    for deed in run:
+        state = wish[1][state][deed]
+    return state
+
+
+def is_good(wish, start, run):
+    return led_to(wish, start, run) in wish[2]
+
+
+def is_live(wish, start, run):
+    """Whether a RUN can be made GOOD: by fewer deeds than there are states, or never."""
+    seen, new = set(), {led_to(wish, start, run)}
+    while new:
+        seen |= new
+        new = {behind for state in new for behind in wish[1][state]} - seen
+    return bool(seen & set(wish[2]))
+
+
+def all_holds(wish, kind, start, run, before, shown):
+    """Whether all of [4] holds of a RUN from a state, if it held ahead of its last deed.
+
+    before is the OUTPUT ahead of that deed, shown is what is shown at it.
+    """
+    hold, ahead, loose = kind
+    output, deed = before + shown, run[-1]
+    live = is_live(wish, start, run)
+    if not is_good(wish, start, output):
+        return False
+    if live:
+        shortened = [run[:len(run) - many] for many in range(min(hold, len(run)) + 1)]
+        lengthened = output[:len(run)] == run and len(output) <= len(run) + ahead
+        if not (output in shortened or lengthened):
+            return False
+    if is_good(wish, start, run) and output != run:
+        return False
+    if deed in loose:
+        if shown[:1] != (deed,):
+            return False
+        if not live and len(shown[1:]) > ahead:
+            return False
+    if deed not in loose and not live and shown != ():
+        return False
+    return True
+
+
+def shown_at(wish, kind, start, run, before):
+    """All that a guard may show at the last deed of a RUN, ascending."""
+    most = kind[0] + 1 + kind[1]
+    return [shown for shown in sorted(lots(wish[0], most))
+            if all_holds(wish, kind, start, run, before, shown)]
+
+
+def position_of(wish, start, run, output):
+    """The POSITION of a RUN from a state with its OUTPUT."""
+    if not is_live(wish, start, run):
+        return ("off", led_to(wish, start, output))
+    if output == run:
+        return ("even", led_to(wish, start, run))
+    if len(output) < len(run):
+        return ("behind", led_to(wish, start, output), run[len(output):])
+    return ("ahead", led_to(wish, start, run), output[len(run):])
+
+
+@functools.cache
+def all_positions(wish, kind):
+    """All POSITIONS by their form [6]."""
+    hold, ahead, loose = kind
+    found = []
+    for state in range(len(wish[1])):
+        if state in wish[2]:
+            found += [("even", state), ("off", state)]
+            found += [("behind", state, lot) for lot in lots(wish[0], hold)
+                      if lot and not set(lot) & set(loose) and is_live(wish, state, lot)
+                      and not any(is_good(wish, state, lot[:many + 1]) for many in range(len(lot)))]
+        elif is_live(wish, state, ()):
+            found += [("ahead", state, lot) for lot in lots(wish[0], ahead)
+                      if lot and is_good(wish, state, lot)]
+    return sorted(found)
+
+
+@functools.cache
+def answers(wish, kind, position, deed):
+    """The ANSWERS at a POSITION to a deed, ascending, each with the POSITION behind it."""
+    word, state = position[:2]
+    if word == "off":
+        most = kind[1] if deed in kind[2] else -1
+        tried = [(deed, *lot) for lot in lots(wish[0], most)] or [()]
+        return [(shown, ("off", led_to(wish, state, shown))) for shown in sorted(tried)
+                if is_good(wish, state, shown)]
+    run = position[2] if word == "behind" else ()
+    before = position[2] if word == "ahead" else ()
+    longer = (*run, deed)
+    return [(shown, position_of(wish, state, longer, before + shown))
+            for shown in shown_at(wish, kind, state, longer, before)]
+
+
+def can_go_on(wish, kind, most, run=(), output=()):
+    """Whether a guard can go on behind a RUN, whatever the next deeds are, so many at most."""
+    if most == 0:
+        return True
+    for deed in range(wish[0]):
+        longer = (*run, deed)
+        if not any(can_go_on(wish, kind, most - 1, longer, output + shown)
+                   for shown in shown_at(wish, kind, 0, longer, output)):
+            return False
+    return True
+
+
+def is_kept_by(wish, kind, show, most):
+    """Whether all of [4] holds for all RUNS of at most so many deeds.
+
+    show(position, deed) is what the guard shows.
+    """
+    waiting = [((), ())]
+    for run, output in waiting:
+        for deed in range(wish[0]):
+            longer = (*run, deed)
+            shown = show(position_of(wish, 0, run, output), deed)
+            if not all_holds(wish, kind, 0, longer, output, shown):
+                return False
+            if len(longer) < most:
+                waiting.append((longer, output + shown))
+    return True
+
+
+def is_defeated_by(wish, kind, play, most, run=(), output=()):
+    """Whether no guard can go on for so many deeds; play(position) is the program's next deed."""
+    if most == 0:
+        return False
+    longer = (*run, play(position_of(wish, 0, run, output)))
+    return all(is_defeated_by(wish, kind, play, most - 1, longer, output + shown)
+               for shown in shown_at(wish, kind, 0, longer, output))
+
+
+def is_right_paper(wish, kind, paper):
+    """Whether a paper with a table of tuples of a right length is right by [6]."""
+    word, table = paper
+    positions = [row[0] for row in table]
+    in_order = all(low < high for low, high in zip(table, table[1:]))
+    if not in_order or len(set(positions)) < len(positions) or ("even", 0) not in positions:
+        return False
+    if not set(positions) <= set(all_positions(wish, kind)):
+        return False
+    if word == "kept":
+        return all(len(told) == wish[0] and any(
+            shown == told[deed] and behind in positions
+            for shown, behind in answers(wish, kind, position, deed))
+            for position, told in table for deed in range(wish[0]))
+    ranks = {position: rank for position, _, rank in table}
+    return all(deed in range(wish[0]) and rank >= 0 and all(
+        ranks.get(behind, rank) < rank for _, behind in answers(wish, kind, position, deed))
+        for position, deed, rank in table)
