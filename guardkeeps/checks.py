@@ -36,4 +36,14 @@ def are_ascending(thing, many):
     # Only what is known to be integers can be compared without an error.
     if not are_numbers(thing, many):
         return False
-    return all([low < high for low, high in zip(thing, thing[1:])])
+    return are_rising(thing)
+
+
+def are_rising(things):
+    """Whether each of some things that can be compared is greater than the one ahead."""
+    return all([low < high for low, high in zip(things, things[1:])])
+
+
+def is_paper(thing, words):
+    """Whether a thing is a pair with one of some words first."""
+    return is_pair(thing) and isinstance(thing[0], str) and thing[0] in words

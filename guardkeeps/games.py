@@ -1,6 +1,7 @@
 """The game behind a WISH and a KIND: POSITIONS, ANSWERS, and the papers on who wins."""
 
-from guardkeeps.checks import are_numbers, is_count, is_integer, is_pair, is_triple
+from guardkeeps.checks import (
+    are_numbers, are_rising, is_count, is_integer, is_pair, is_paper, is_triple)
 from guardkeeps.errors import BadPaper, OutOfPlace
 from guardkeeps.kinds import need_kind
 from guardkeeps.play import START, coming_moves, lost_positions
@@ -44,7 +45,7 @@ def kept_paper(wish, kind):
 def check_kept(wish, kind, paper):
     """The first word of a right paper on whether a WISH can be kept by a KIND."""
     rules = _need_rules(wish, kind)
-    if not is_pair(paper) or not isinstance(paper[0], str) or paper[0] not in ("kept", "lost"):
+    if not is_paper(paper, ("kept", "lost")):
         raise BadPaper("form")
     word, table = paper
     if not isinstance(table, tuple):
@@ -65,7 +66,7 @@ def _need_moves(wish, kind, position, deed):
     rules = _need_rules(wish, kind)
     if not rules.has_form(position):
         raise OutOfPlace("position: one of this wish and kind is wanted")
-    return rules.moves(position, need_deed(wish, deed))
+    return rules.moves(position, need_deed(wish[0], deed))
 
 
 def _is_answer(moves, thing, deeds):
@@ -153,6 +154,4 @@ def _is_lost_by(rules, row, ranks):
 
 def _are_places(positions):
     """Whether POSITIONS are ascending, so that none comes twice, with the start among them."""
-    if START not in positions:
-        return False
-    return all([low < high for low, high in zip(positions, positions[1:])])
+    return START in positions and are_rising(positions)

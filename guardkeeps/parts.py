@@ -2,13 +2,14 @@
 
 from guardkeeps.errors import OutOfPlace
 from guardkeeps.kinds import need_loose
+from guardkeeps.walks import first_runs
 from guardkeeps.wishes import need_wish, reached_states
 
 
 def is_part(wish, other):
     """Whether each RUN that is GOOD by a WISH is GOOD by the other one."""
     _need_both(wish, other)
-    for state, beside in _first_runs(wish, other):
+    for state, beside in _both_runs(wish, other):
         if state in wish[2] and beside not in other[2]:
             return False
     return True
@@ -22,7 +23,7 @@ def are_alike(wish, other):
 def parting(wish, other):
     """The first RUN, of those with the fewest deeds, that is GOOD by just one WISH, or None."""
     _need_both(wish, other)
-    runs = _first_runs(wish, other)
+    runs = _both_runs(wish, other)
     for state, beside in runs:
         if (state in wish[2]) != (beside in other[2]):
             return runs[state, beside]
@@ -52,22 +53,9 @@ def _need_both(wish, other):
         raise OutOfPlace("other: a wish with as many deeds is wanted")
 
 
-def _first_runs(wish, other):
-    """For each pair of states that comes by one RUN, the first such RUN.
-
-    RUNS with fewer deeds are first, those with as many in ascending order; so stand the pairs.
-    """
-    runs = {}
-    waiting = [(0, 0, ())]
-    while waiting:
-        longer = []
-        for state, beside, run in waiting:
-            if (state, beside) not in runs:
-                runs[state, beside] = run
-                for deed in range(wish[0]):
-                    longer.append((wish[1][state][deed], other[1][beside][deed], (*run, deed)))
-        waiting = longer
-    return runs
+def _both_runs(wish, other):
+    """For each pair of states that comes by one RUN, the first such RUN, in their order."""
+    return first_runs((0, 0), lambda pair: list(zip(wish[1][pair[0]], other[1][pair[1]])))
 
 
 def _sure_states(steps, good, loose):

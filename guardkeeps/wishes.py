@@ -22,18 +22,21 @@ def need_wish(thing):
     return thing
 
 
-def need_run(wish, thing):
-    """The thing itself, if it is a RUN of a right wish and not too long; otherwise OutOfPlace."""
-    if not are_numbers(thing, wish[0]):
-        raise OutOfPlace("run: a tuple of deeds is wanted")
-    if len(thing) > LONGEST_RUN:
-        raise OutOfPlace("run: more than 400 deeds")
+def need_run(deeds, thing):
+    """The thing itself, if it is a RUN of so many deeds and not too long; otherwise OutOfPlace."""
+    if not is_run(thing, deeds):
+        raise OutOfPlace("run: a tuple of at most 400 deeds is wanted")
     return thing
 
 
-def need_deed(wish, thing):
-    """The thing itself, if it is a deed of a right wish; otherwise OutOfPlace."""
-    if not is_integer(thing, 0, wish[0] - 1):
+def is_run(thing, deeds):
+    """Whether a thing is a RUN of so many deeds that is not too long."""
+    return are_numbers(thing, deeds) and len(thing) <= LONGEST_RUN
+
+
+def need_deed(deeds, thing):
+    """The thing itself, if it is one of so many deeds; otherwise OutOfPlace."""
+    if not is_integer(thing, 0, deeds - 1):
         raise OutOfPlace("deed: one of the deeds is wanted")
     return thing
 
@@ -48,7 +51,7 @@ def state_behind(steps, state, deeds):
 def state_of(wish, run):
     """The state of a RUN."""
     need_wish(wish)
-    need_run(wish, run)
+    need_run(wish[0], run)
     return state_behind(wish[1], 0, run)
 
 

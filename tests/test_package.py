@@ -39,6 +39,20 @@ INTERFACE = [
     ("parts", "are_alike", ["wish", "other"]),
     ("parts", "parting", ["wish", "other"]),
     ("parts", "kept_part", ["wish", "loose"]),
+    ("guards", "need_guard", ["deeds", "thing"]),
+    ("guards", "output", ["deeds", "guard", "run"]),
+    ("guards", "memory_of", ["deeds", "guard", "run"]),
+    ("judges", "failing", ["wish", "kind", "guard", "run"]),
+    ("judges", "keeps", ["wish", "kind", "guard"]),
+    ("judges", "first_failing", ["wish", "kind", "guard"]),
+    ("judges", "judge_paper", ["wish", "kind", "guard"]),
+    ("judges", "check_judge", ["wish", "kind", "guard", "paper"]),
+    ("judges", "held_and_early", ["wish", "kind", "guard"]),
+    ("fellows", "are_fellows", ["deeds", "guard", "other"]),
+    ("fellows", "parting_run", ["deeds", "guard", "other"]),
+    ("fellows", "least", ["deeds", "guard"]),
+    ("fellows", "joined", ["deeds", "guard", "other"]),
+    ("fellows", "guard_of", ["wish", "kind", "paper"]),
 ]
 
 

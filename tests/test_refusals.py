@@ -1,15 +1,15 @@
 """Wrong arguments of the calls on games, needs and parts: one, two, and passed in any order."""
 
-import itertools
 import unittest
 
 from guardkeeps.errors import BadKind, BadPaper, BadWish, OutOfPlace
 from guardkeeps.games import answers, can_be_kept, check_kept, is_position, kept_paper, led
 from guardkeeps.needs import least_ahead, least_hold, need
 from guardkeeps.parts import are_alike, is_part, kept_part, parting
+from refusing import Refusing, out_of_place
 from things import (
     ALL_GOOD, DOOR, MANY_FIGURES, Unlike, no_integers, no_numbers, no_tuples, wrong_kinds,
-    wrong_wishes)
+    wrong_positions, wrong_wishes)
 
 KIND = (1, 1, ())
 START = ("even", 0)
@@ -24,22 +24,10 @@ RIGHT = {"wish": DOOR, "other": DOOR, "kind": KIND, "position": START, "deed": 1
          "value": START, "paper": PAPER, "hold": 1, "ahead": 1, "loose": ()}
 
 
-def wrong_positions():
-    return [*no_tuples(), (), ("even",), ("even", 1), ("off", 2), ("even", False), ("even", 0.0),
-            ["even", 0], ("even", 0, ()), ("behind", 0), ("behind", 0, ()), ("behind", 0, (1,)),
-            ("behind", 0, (0, 0)), ("behind", 0, (False,)), ("behind", 1, (1,)), ("ahead", 0, (1,)),
-            ("ahead", 1, (1, 1)), ("ahead", 1, (True,)), ("ahead", 1, (0,)), ("ahead", 2, (1,)),
-            (START, 0), (Unlike(), Unlike()), ("even", Unlike()), ("behind", 0, Unlike())]
-
-
 def wrong_lots(lots):
     """What is no ascending tuple of deeds, if two of them are told to be none."""
     inner = [(wrong,) for wrong in no_numbers(2)] + [(0, wrong) for wrong in no_numbers(2)]
     return [*no_tuples(), [0], [], (1, 0), (0, 0), (1, 1), (0, 1, 1), (0, 1, 2), *inner, *lots]
-
-
-def out_of_place(things):
-    return [(thing, OutOfPlace, None) for thing in things]
 
 
 WRONG = {
@@ -76,40 +64,8 @@ CALLS = {
 }
 
 
-class Refusals(unittest.TestCase):
-    def refused(self, call, things, error, part):
-        names = list(things)
-        half = len(names) // 2
-        backwards = {name: things[name] for name in reversed(names)}
-        for ask in (lambda: call(*things.values()), lambda: call(**things),
-                    lambda: call(**backwards),
-                    lambda: call(*[things[name] for name in names[:half]],
-                                 **{name: things[name] for name in reversed(names[half:])})):
-            with self.assertRaises(error) as caught:
-                ask()
-            self.assertIs(caught.exception.__class__, error, call.__name__)
-            self.assertEqual(getattr(caught.exception, "part", None), part, call.__name__)
-
-    def with_wrong(self, call, wrong):
-        return {name: wrong.get(name, RIGHT[name]) for name in CALLS[call]}
-
-    def test_nothing_wrong(self):
-        for call, names in CALLS.items():
-            right = {name: RIGHT[name] for name in names}
-            self.assertEqual(call(**right), call(*right.values()), call.__name__)
-
-    def test_one_wrong(self):
-        for call, names in CALLS.items():
-            for name in names:
-                for thing, error, part in WRONG[name]:
-                    self.refused(call, self.with_wrong(call, {name: thing}), error, part)
-
-    def test_of_two_wrong_the_left_one_is_refused(self):
-        for call, names in CALLS.items():
-            for left, right in itertools.combinations(names, 2):
-                for one, two in itertools.product(WRONG[left], WRONG[right][::4]):
-                    wrong = {left: one[0], right: two[0]}
-                    self.refused(call, self.with_wrong(call, wrong), one[1], one[2])
+class Refusals(Refusing, unittest.TestCase):
+    right, wrong, calls = RIGHT, WRONG, CALLS
 
     def test_all_wrong_the_wish_is_refused(self):
         for call, names in CALLS.items():
@@ -119,16 +75,6 @@ class Refusals(unittest.TestCase):
     def test_a_value_of_any_kind_is_wrong_in_no_way(self):
         for thing in (*wrong_positions(), *no_integers()):
             self.assertIs(is_position(DOOR, KIND, thing), False)
-
-    def test_afterwards_right_things_are_taken(self):
-        for call, names in CALLS.items():
-            right = {name: RIGHT[name] for name in names}
-            before = call(**right)
-            for name in names:
-                for thing, error, _ in WRONG[name][:5]:
-                    with self.assertRaises(error):
-                        call(**{**right, name: thing})
-            self.assertEqual(call(**right), before)
 
     def test_deeds_of_this_wish_alone(self):
         wide = (4, ((0, 0, 0, 0),), (0,))

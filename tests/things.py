@@ -2,6 +2,8 @@
 
 import random
 
+from guardkeeps.games import kept_paper, led
+
 MANY_FIGURES = 10 ** 999
 
 # Nothing is stopped, everything is GOOD.
@@ -15,6 +17,16 @@ MIXED = (2, ((1, 2), (0, 2), (2, 2), (4, 1), (2, 4)), (0,))
 
 # Deed 0 opens a door, deed 1 shuts it; the door is to be shut, and breaks if an open one is opened.
 DOOR = (2, ((1, 0), (2, 0), (2, 2)), (0,))
+
+# Holds the first deed 0 back, and stops for good if another one follows.
+HOLDER = (((1, ()), (0, (1,))), ((2, ()), (0, (0, 1))), ((2, ()), (2, ())))
+
+# Shuts the door at once, whatever comes then; lets the deed 1 that was shown ahead come.
+SHUTTER = (((1, (0, 1)), (0, (1,))), ((2, ()), (0, ())), ((2, ()), (2, ())))
+
+# Lets everything out, and stops everything.
+OPEN_TO_ALL = (((0, (0,)), (0, (1,))),)
+CLOSED_TO_ALL = (((0, ()), (0, ())),)
 
 
 class Unlike:
@@ -74,6 +86,82 @@ def drawn_games(seed, times):
     return [(wish, drawn_kind(draw, wish[0])) for wish in drawn_wishes(seed, times)]
 
 
+def drawn_guard(draw, deeds, memories=None):
+    """A guard for so many deeds, some of which are let out; draw is a random.Random."""
+    memories = memories or draw.randrange(1, 9)
+    return tuple(
+        tuple((draw.randrange(memories), drawn_shown(draw, deeds, deed)) for deed in range(deeds))
+        for _ in range(memories))
+
+
+def drawn_shown(draw, deeds, deed):
+    """What might be shown at a deed."""
+    if draw.random() < 0.6:
+        return draw.choice(((), (deed,), (deed,)))
+    return tuple(draw.randrange(deeds) for _ in range(draw.randrange(7)))
+
+
+def changed_guard(draw, guard):
+    """A guard with one thing otherwise: a memory behind a deed, or what is shown."""
+    memory, deed = draw.randrange(len(guard)), draw.randrange(len(guard[0]))
+    behind, shown = guard[memory][deed]
+    if draw.random() < 0.3:
+        pair = (draw.randrange(len(guard)), shown)
+    else:
+        pair = (behind, drawn_shown(draw, len(guard[0]), deed))
+    row = (*guard[memory][:deed], pair, *guard[memory][deed + 1:])
+    return (*guard[:memory], row, *guard[memory + 1:])
+
+
+def drawn_judged(seed, times):
+    """Triples of a wish, a kind and a guard: drawn ones, right ones, and some nearly right."""
+    draw = random.Random(seed)
+    judged = []
+    for wish, kind in drawn_games(seed, times):
+        judged.append((wish, kind, drawn_guard(draw, wish[0])))
+        paper = kept_paper(wish, kind)
+        if paper[0] == "kept":
+            guard = table_guard(wish, kind, paper[1])
+            if len(guard) <= 8:
+                judged.append((wish, kind, guard))
+                judged.append((wish, kind, changed_guard(draw, guard)))
+    return judged
+
+
+def table_guard(wish, kind, table):
+    """The guard of a table of POSITIONS with ANSWERS, with the first POSITION for memory 0."""
+    places = sorted([position for position, _ in table], key=lambda place: place != ("even", 0))
+    shown_at = dict(table)
+    return tuple(
+        tuple((places.index(led(wish, kind, place, deed, shown)), shown)
+              for deed, shown in enumerate(shown_at[place]))
+        for place in places)
+
+
+def wrong_guards():
+    """Pairs of a thing that is no GUARD for two deeds and the part for which it is refused."""
+    row = ((0, ()), (0, ()))
+    return [
+        (None, "form"),
+        ((), "form"),
+        ([row], "form"),
+        ((list(row),), "form"),
+        ((row[:1],), "form"),
+        ((row + row[:1],), "form"),
+        ((row,) * 9, "form"),
+        ((row, Unlike()), "form"),
+        ((((1, ()), (0, ())),), "next"),
+        ((((0, ()), (False, ())),), "next"),
+        ((((0, ()), [0, ()]),), "next"),
+        ((((0, (), ()), (0, ())),), "next"),
+        ((row, ((0, None), (2, ()))), "next"),
+        ((((0, ()), (0, (2,))),), "shown"),
+        ((((0, ()), (0, [1])),), "shown"),
+        ((((0, (True,)), (0, ())),), "shown"),
+        ((row, ((0, (0,) * 7), (0, ()))), "shown"),
+    ]
+
+
 def wrong_kinds():
     """Pairs of a thing that is no KIND for two deeds and the part for which it is refused."""
     return [
@@ -110,3 +198,12 @@ def wrong_wishes():
         ((2, ((0, 0),), (1,)), "good"),
         ((2, ((0, 0),), (False,)), "good"),
     ]
+
+
+def wrong_positions():
+    """What is no POSITION by the wish DOOR and the kind (1, 1, ())."""
+    return [*no_tuples(), (), ("even",), ("even", 1), ("off", 2), ("even", False), ("even", 0.0),
+            ["even", 0], ("even", 0, ()), ("behind", 0), ("behind", 0, ()), ("behind", 0, (1,)),
+            ("behind", 0, (0, 0)), ("behind", 0, (False,)), ("behind", 1, (1,)), ("ahead", 0, (1,)),
+            ("ahead", 1, (1, 1)), ("ahead", 1, (True,)), ("ahead", 1, (0,)), ("ahead", 2, (1,)),
+            (("even", 0), 0), (Unlike(), Unlike()), ("even", Unlike()), ("behind", 0, Unlike())]

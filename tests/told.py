@@ -1,4 +1,4 @@
-"""Points [2], [4], [5] and [6] of the document, tried out word by word and without thrift."""
+"""Points of the document that tell of runs, tried out word by word and without thrift."""
 
 import functools
 import itertools
@@ -30,31 +30,92 @@ def is_live(wish, start, run):
     return bool(seen & set(wish[2]))
 
 
-def all_holds(wish, kind, start, run, before, shown):
-    """Whether all of [4] holds of a RUN from a state, if it held ahead of its last deed.
+def broken_points(wish, kind, start, run, before, shown):
+    """The WORDS of the points of [4] that do not hold of a RUN from a state, in their order.
 
-    before is the OUTPUT ahead of that deed, shown is what is shown at it.
+    All held ahead of its last deed; before is the OUTPUT then, shown is what is shown at it.
     """
     hold, ahead, loose = kind
     output, deed = before + shown, run[-1]
     live = is_live(wish, start, run)
+    shortened = [run[:len(run) - many] for many in range(min(hold, len(run)) + 1)]
+    lengthened = output[:len(run)] == run and len(output) <= len(run) + ahead
+    words = []
     if not is_good(wish, start, output):
-        return False
-    if live:
-        shortened = [run[:len(run) - many] for many in range(min(hold, len(run)) + 1)]
-        lengthened = output[:len(run)] == run and len(output) <= len(run) + ahead
-        if not (output in shortened or lengthened):
-            return False
-    if is_good(wish, start, run) and output != run:
-        return False
-    if deed in loose:
-        if shown[:1] != (deed,):
-            return False
-        if not live and len(shown[1:]) > ahead:
-            return False
+        words.append("good")
+    if (live and not (output in shortened or lengthened)) or (
+            is_good(wish, start, run) and output != run):
+        words.append("run")
+    if deed in loose and (shown[:1] != (deed,) or (not live and len(shown[1:]) > ahead)):
+        words.append("loose")
     if deed not in loose and not live and shown != ():
+        words.append("still")
+    return words
+
+
+def all_holds(wish, kind, start, run, before, shown):
+    """Whether all of [4] holds of a RUN from a state, if it held ahead of its last deed."""
+    return not broken_points(wish, kind, start, run, before, shown)
+
+
+def steps_of(guard, run):
+    """For each deed of a RUN the OUTPUT ahead of it, what is shown, and the memory behind it."""
+    memory, before, steps = 0, (), []
+    for deed in run:
+        memory, shown = guard[memory][deed]
+        steps.append((before, shown, memory))
+        before += shown
+    return steps
+
+
+def failing(wish, kind, guard, run):
+    """How many deeds the first beginning of a RUN has of which [4] does not hold, and its WORD."""
+    for at, (before, shown, _) in enumerate(steps_of(guard, run)):
+        words = broken_points(wish, kind, 0, run[:at + 1], before, shown)
+        if words:
+            return (at + 1, words[0])
+    return None
+
+
+def coming_places(wish, kind, guard):
+    """The pairs of a memory and a POSITION that come, and whether a RUN fails on the way."""
+    places, failed, runs = {(0, ("even", 0))}, False, [()]
+    for run in runs:
+        for deed in range(wish[0]):
+            longer = (*run, deed)
+            if failing(wish, kind, guard, longer):
+                failed = True
+                continue
+            before, shown, memory = steps_of(guard, longer)[-1]
+            place = (memory, position_of(wish, 0, longer, before + shown))
+            if place not in places:
+                places.add(place)
+                runs.append(longer)
+    return places, failed
+
+
+def is_right_table(wish, kind, guard, table):
+    """Whether a tuple of pairs of a memory and a POSITION is right by [9]."""
+    if (0, ("even", 0)) not in table or any(low >= high for low, high in zip(table, table[1:])):
         return False
-    return True
+    for memory, position in table:
+        if memory not in range(len(guard)) or position not in all_positions(wish, kind):
+            return False
+    return all((guard[memory][deed][0], behind) in table
+               for memory, position in table for deed in range(wish[0])
+               for behind in [dict(answers(wish, kind, position, deed)).get(guard[memory][deed][1])])
+
+
+def memory_pairs(guard, other):
+    """For each pair of memories that comes by one RUN, a RUN to it with the fewest deeds."""
+    found, runs = {}, [()]
+    for run in runs:
+        pair = tuple(([0] + [memory for _, _, memory in steps_of(each, run)])[-1]
+                     for each in (guard, other))
+        if pair not in found:
+            found[pair] = run
+            runs.extend((*run, deed) for deed in range(len(guard[0])))
+    return found
 
 
 def shown_at(wish, kind, start, run, before):
