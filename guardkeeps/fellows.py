@@ -4,7 +4,7 @@ from guardkeeps.errors import OutOfPlace, TooMany
 from guardkeeps.games import check_kept
 from guardkeeps.guards import MOST_MEMORIES, MOST_SHOWN, need_guard, walked
 from guardkeeps.play import START
-from guardkeeps.rules import Rules
+from guardkeeps.rules import need_rules
 from guardkeeps.walks import first_runs
 
 
@@ -14,7 +14,7 @@ def are_fellows(deeds, guard, other):
 
 
 def parting_run(deeds, guard, other):
-    """The first RUN, of those with the fewest deeds, at whose last deed two GUARDS part, or None."""
+    """The first RUN, of those with the fewest deeds, at whose last deed both part, or None."""
     need_guard(deeds, guard)
     need_guard(deeds, other)
     return first_runs((0, 0), lambda pair: _pairs_behind(guard, other, pair)).get(None)
@@ -41,7 +41,7 @@ def guard_of(wish, kind, paper):
     """The GUARD of a paper "kept" on a WISH and a KIND."""
     if check_kept(wish, kind, paper) == "lost":
         raise OutOfPlace("paper: one that tells that the wish can be kept is wanted")
-    rules = Rules(wish, kind)
+    rules = need_rules(wish, kind)
     table = {position: shown_at for position, shown_at in paper[1]}
     return _need_few(_numbered(START, lambda position: _answered_row(rules, table, position)))
 

@@ -3,15 +3,14 @@
 from guardkeeps.checks import (
     are_numbers, are_rising, is_count, is_integer, is_pair, is_paper, is_triple)
 from guardkeeps.errors import BadPaper, OutOfPlace
-from guardkeeps.kinds import need_kind
 from guardkeeps.play import START, coming_moves, lost_positions
-from guardkeeps.rules import Rules
+from guardkeeps.rules import need_rules
 from guardkeeps.wishes import need_deed
 
 
 def is_position(wish, kind, value):
     """Whether a value of any kind is a POSITION by its form."""
-    return _need_rules(wish, kind).has_form(value)
+    return need_rules(wish, kind).has_form(value)
 
 
 def answers(wish, kind, position, deed):
@@ -29,13 +28,13 @@ def led(wish, kind, position, deed, shown):
 
 def can_be_kept(wish, kind):
     """Whether some guard keeps a WISH by a KIND."""
-    table = coming_moves(_need_rules(wish, kind))
+    table = coming_moves(need_rules(wish, kind))
     return START not in lost_positions(table)
 
 
 def kept_paper(wish, kind):
     """A paper on whether a WISH can be kept by a KIND; only POSITIONS that come by it are in it."""
-    table = coming_moves(_need_rules(wish, kind))
+    table = coming_moves(need_rules(wish, kind))
     lost = lost_positions(table)
     if START in lost:
         return ("lost", _lost_table(table, lost))
@@ -44,7 +43,7 @@ def kept_paper(wish, kind):
 
 def check_kept(wish, kind, paper):
     """The first word of a right paper on whether a WISH can be kept by a KIND."""
-    rules = _need_rules(wish, kind)
+    rules = need_rules(wish, kind)
     if not is_paper(paper, ("kept", "lost")):
         raise BadPaper("form")
     word, table = paper
@@ -56,14 +55,9 @@ def check_kept(wish, kind, paper):
     return word
 
 
-def _need_rules(wish, kind):
-    """The rules of a WISH and a KIND; BadWish or BadKind of what is none."""
-    return Rules(wish, need_kind(wish, kind))
-
-
 def _need_moves(wish, kind, position, deed):
     """The moves at a POSITION to a deed; an error for the first argument that is wrong."""
-    rules = _need_rules(wish, kind)
+    rules = need_rules(wish, kind)
     if not rules.has_form(position):
         raise OutOfPlace("position: one of this wish and kind is wanted")
     return rules.moves(position, need_deed(wish[0], deed))

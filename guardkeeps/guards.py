@@ -10,8 +10,7 @@ MOST_SHOWN = 6
 
 def need_guard(deeds, thing):
     """The thing itself, if it is a GUARD for so many deeds; otherwise BadGuard."""
-    if not is_integer(deeds, 1, MOST_DEEDS):
-        raise OutOfPlace("deeds: an integer from 1 to 4 is wanted")
+    need_deeds(deeds)
     if not _are_memories(thing, deeds):
         raise BadGuard("form")
     pairs = [pair for memory in thing for pair in memory]
@@ -30,6 +29,13 @@ def output(deeds, guard, run):
 def memory_of(deeds, guard, run):
     """The memory behind a RUN."""
     return _walked_whole(deeds, guard, run)[0]
+
+
+def need_deeds(thing):
+    """The thing itself, if it is a number of deeds; otherwise OutOfPlace."""
+    if not is_integer(thing, 1, MOST_DEEDS):
+        raise OutOfPlace("deeds: an integer from 1 to 4 is wanted")
+    return thing
 
 
 def is_shown(thing, deeds):

@@ -3,17 +3,16 @@
 from guardkeeps.checks import are_rising, is_integer, is_pair, is_paper
 from guardkeeps.errors import BadPaper, Nothing
 from guardkeeps.guards import need_guard
-from guardkeeps.kinds import need_kind
 from guardkeeps.play import START
-from guardkeeps.points import broken_point
-from guardkeeps.rules import Rules
+from guardkeeps.points import stepped
+from guardkeeps.rules import need_rules
 from guardkeeps.walks import first_runs
 from guardkeeps.wishes import is_run, need_run
 
 
 def failing(wish, kind, guard, run):
     """How many deeds the beginning of a RUN has that fails, with its WORD; None if none fails."""
-    rules = _need_rules(wish, kind, guard)
+    rules = _need_all(wish, kind, guard)
     return _first_fault(rules, guard, need_run(wish[0], run))
 
 
@@ -24,12 +23,12 @@ def keeps(wish, kind, guard):
 
 def first_failing(wish, kind, guard):
     """The first RUN, of those with the fewest deeds, that fails, or None."""
-    return _place_runs(_need_rules(wish, kind, guard), guard).get(None)
+    return _place_runs(_need_all(wish, kind, guard), guard).get(None)
 
 
 def judge_paper(wish, kind, guard):
     """A paper on whether a GUARD keeps a WISH: the pairs that come, or the first RUN that fails."""
-    runs = _place_runs(_need_rules(wish, kind, guard), guard)
+    runs = _place_runs(_need_all(wish, kind, guard), guard)
     if None in runs:
         return ("fails", runs[None])
     return ("keeps", tuple(sorted(runs)))
@@ -37,7 +36,7 @@ def judge_paper(wish, kind, guard):
 
 def check_judge(wish, kind, guard, paper):
     """The first word of a right paper on whether a GUARD keeps a WISH by a KIND."""
-    rules = _need_rules(wish, kind, guard)
+    rules = _need_all(wish, kind, guard)
     if not is_paper(paper, ("keeps", "fails")):
         raise BadPaper("form")
     word, told = paper
@@ -49,16 +48,16 @@ def check_judge(wish, kind, guard, paper):
 
 def held_and_early(wish, kind, guard):
     """The pair of HELD and EARLY of a GUARD; Nothing if it does not keep the WISH."""
-    runs = _place_runs(_need_rules(wish, kind, guard), guard)
+    runs = _place_runs(_need_all(wish, kind, guard), guard)
     if None in runs:
         raise Nothing("the guard does not keep the wish")
     positions = [position for _, position in runs]
     return (_most_deeds(positions, "behind"), _most_deeds(positions, "ahead"))
 
 
-def _need_rules(wish, kind, guard):
-    """The rules of a WISH and a KIND; an error for the first argument that is wrong."""
-    rules = Rules(wish, need_kind(wish, kind))
+def _need_all(wish, kind, guard):
+    """The rules of a WISH and a KIND; an error for the first thing that is wrong."""
+    rules = need_rules(wish, kind)
     need_guard(rules.deeds, guard)
     return rules
 
@@ -69,10 +68,9 @@ def _first_fault(rules, guard, run):
     position = START
     for many, deed in enumerate(run, start=1):
         memory, shown = guard[memory][deed]
-        word = broken_point(rules, position, deed, shown)
+        position, word = stepped(rules, position, deed, shown)
         if word is not None:
             return (many, word)
-        position = rules.moves(position, deed)[shown]
     return None
 
 

@@ -3,6 +3,14 @@
 from guardkeeps.wishes import state_behind
 
 
+def stepped(rules, position, deed, shown):
+    """The POSITION behind a deed and None; or None and the WORD, if a point does not hold there."""
+    word = broken_point(rules, position, deed, shown)
+    if word is not None:
+        return (None, word)
+    return (rules.moves(position, deed)[shown], None)
+
+
 def broken_point(rules, position, deed, shown):
     """The WORD of the first point that does not hold behind a deed, or None; all did ahead of it.
 

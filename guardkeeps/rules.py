@@ -1,6 +1,7 @@
 """What a guard of some KIND may show: the POSITIONS, and the ANSWERS at each of them."""
 
 from guardkeeps.checks import are_numbers, is_integer
+from guardkeeps.kinds import need_kind
 from guardkeeps.wishes import live_states, state_behind
 
 
@@ -97,6 +98,11 @@ class Rules:
         for tail in self.tails[behind]:
             moves[whole + tail] = ("ahead", behind, tail)
         return moves
+
+
+def need_rules(wish, kind):
+    """The rules of a WISH and a KIND; BadWish or BadKind of what is none."""
+    return Rules(wish, need_kind(wish, kind))
 
 
 def tails_from(steps, state, most):

@@ -10,7 +10,7 @@ import unittest
 ROOT = pathlib.Path(__file__).resolve().parent.parent
 FILES = sorted((ROOT / "guardkeeps").glob("*.py"))
 
-# What has landed of the interface: the file, the name, the arguments.
+# The interface: the file, the name, the arguments.
 INTERFACE = [
     ("errors", "BadWish", ["part"]),
     ("errors", "BadKind", ["part"]),
@@ -53,7 +53,32 @@ INTERFACE = [
     ("fellows", "least", ["deeds", "guard"]),
     ("fellows", "joined", ["deeds", "guard", "other"]),
     ("fellows", "guard_of", ["wish", "kind", "paper"]),
+    ("films", "do_fit", ["wish", "kind", "films"]),
+    ("films", "first_unfit", ["wish", "kind", "films"]),
+    ("watches", "Watch", ["wish", "kind", "guard"]),
+    ("watches", "under", ["watch", "deed"]),
+    ("texts", "wish_text", ["wish"]),
+    ("texts", "guard_text", ["deeds", "guard"]),
+    ("texts", "read_wish", ["string"]),
+    ("texts", "read_guard", ["deeds", "string"]),
+    ("desk", "Desk", []),
 ]
+
+# The methods of its classes: the file, the class, the name, the arguments behind self.
+METHODS = [
+    ("watches", "Watch", "feed", "(self, deed)"),
+    ("watches", "Watch", "back", "(self, *, many=1)"),
+    ("watches", "Watch", "copy", "(self)"),
+    ("watches", "Watch", "trial", "(self)"),
+    ("desk", "Desk", "say", "(self, line)"),
+]
+
+# What its classes have besides: properties, and what stands behind signs.
+PROPERTIES = [
+    ("watches", "Watch", ["wish", "kind", "guard", "run", "output", "memory", "word"]),
+    ("desk", "Desk", ["wish", "kind", "watch"]),
+]
+SIGNS = ["__len__", "__contains__", "__eq__"]
 
 
 class Interface(unittest.TestCase):
@@ -66,6 +91,28 @@ class Interface(unittest.TestCase):
             for each in parameters:
                 self.assertIs(each.kind, inspect.Parameter.POSITIONAL_OR_KEYWORD, name)
                 self.assertIs(each.default, inspect.Parameter.empty, name)
+
+    def test_methods_stand_in_the_class_itself(self):
+        for file, owner, name, arguments in METHODS:
+            found = vars(getattr(importlib.import_module(f"guardkeeps.{file}"), owner))[name]
+            self.assertEqual(str(inspect.signature(found)), arguments, name)
+        watch = importlib.import_module("guardkeeps.watches").Watch
+        for name in SIGNS:
+            self.assertTrue(inspect.isfunction(vars(watch)[name]), name)
+
+    def test_properties_stand_in_the_class_itself(self):
+        for file, owner, names in PROPERTIES:
+            found = vars(getattr(importlib.import_module(f"guardkeeps.{file}"), owner))
+            for name in names:
+                self.assertIsInstance(found[name], property, name)
+                self.assertIsNone(found[name].fset, name)
+
+    def test_each_is_defined_in_its_file(self):
+        for file, name, _ in INTERFACE:
+            names = [node.name for node in ast.parse(
+                (ROOT / "guardkeeps" / f"{file}.py").read_text()).body
+                if isinstance(node, (ast.FunctionDef, ast.ClassDef))]
+            self.assertIn(name, names, file)
 
 
 class Files(unittest.TestCase):
@@ -100,6 +147,16 @@ class Files(unittest.TestCase):
                     for name in node.names:
                         self.assertIsNone(name.asname)
                         self.assertIn(name.name, self.defined_in(home), path)
+
+    def test_no_two_files_import_from_each_other(self):
+        imported = {path.stem: {node.module.split(".")[1]
+                                for node in ast.walk(ast.parse(path.read_text()))
+                                if isinstance(node, ast.ImportFrom)} for path in FILES}
+        while imported:
+            free = [file for file, others in imported.items() if not others & set(imported)]
+            self.assertTrue(free, imported)
+            for file in free:
+                del imported[file]
 
     def defined_in(self, path):
         names = []

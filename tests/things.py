@@ -138,6 +138,26 @@ def table_guard(wish, kind, table):
         for place in places)
 
 
+def film_of(guard, run):
+    """The FILM of a guard at a RUN."""
+    memory, shown_at = 0, []
+    for deed in run:
+        memory, shown = guard[memory][deed]
+        shown_at.append(shown)
+    return (run, tuple(shown_at))
+
+
+def wrong_films():
+    """What are no FILMS for two deeds."""
+    films = [None, [], [((), ())], ((),), (((),),), (((), (), ()),), ([(), ()],), (((), []),),
+             (([], ()),), (((0,), ()),), (((), ((),)),), (((0, 1), ((0,),)),), (((2,), ((),)),),
+             (((True,), ((),)),), (((0,), ((2,),)),), (((0,), ((False,),)),), (((0,), ([0],)),),
+             (((0,), ((0,) * 7,)),), (((0,), (None,)),), (((0,), (0,)),), (((0,), (Unlike(),)),),
+             (((Unlike(),), ((),)),), (Unlike(),), ((Unlike(), Unlike()),), ((),) * 21,
+             (((), ()),) * 21, (((0,) * 41, ((0,),) * 41),), ((0,), ((0,),)), ((), ())]
+    return films + [(film,) for film in no_tuples()] + [(((), thing),) for thing in no_tuples()]
+
+
 def wrong_guards():
     """Pairs of a thing that is no GUARD for two deeds and the part for which it is refused."""
     row = ((0, ()), (0, ()))

@@ -94,6 +94,48 @@ def coming_places(wish, kind, guard):
     return places, failed
 
 
+@functools.cache
+def lasting(wish, kind):
+    """The POSITIONS, of those that come by any ANSWERS, from which a guard can go on."""
+    come = [("even", 0)]
+    for position in come:
+        come.extend({behind for deed in range(wish[0])
+                     for _, behind in answers(wish, kind, position, deed)} - set(come))
+    last = set(come)
+    while True:
+        fewer = {position for position in last if all(
+            any(behind in last for _, behind in answers(wish, kind, position, deed))
+            for deed in range(wish[0]))}
+        if fewer == last:
+            return last
+        last = fewer
+
+
+def do_fit(wish, kind, films):
+    """Whether FILMS fit, as [13] says it at last."""
+    last = lasting(wish, kind)
+    for (run, shown), (other, beside) in itertools.product(films, repeat=2):
+        for many in range(1, min(len(run), len(other)) + 1):
+            if run[:many] == other[:many] and shown[many - 1] != beside[many - 1]:
+                return False
+    for run, shown_at in films:
+        position = ("even", 0)
+        for deed, shown in zip(run, shown_at):
+            position = dict(answers(wish, kind, position, deed)).get(shown)
+            if position not in last:
+                return False
+    return ("even", 0) in last
+
+
+def first_unfit(wish, kind, films):
+    """The number of the first FILM that does not fit, and with how few of its deeds; or None."""
+    for number, (run, shown) in enumerate(films):
+        if not do_fit(wish, kind, films[:number + 1]):
+            return next((number, many) for many in range(len(run) + 1)
+                        if not do_fit(wish, kind, (*films[:number], (run[:many], shown[:many]))))
+    return None
+
+
 def is_right_table(wish, kind, guard, table):
     """Whether a tuple of pairs of a memory and a POSITION is right by [9]."""
     if (0, ("even", 0)) not in table or any(low >= high for low, high in zip(table, table[1:])):
